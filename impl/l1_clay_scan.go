@@ -158,25 +158,34 @@ func clayReadNumber(rest string) (token ClayToken, size, code int) {
 	return ClayToken{Kind: ClayTokInt, N: n}, size, 0
 }
 
-// clayReadText reads up to the end ahead of asking for the length: a text that is not ended is that, however long.
 func clayReadText(rest string) (token ClayToken, size, code int) {
-	var text []byte
-	at := 1
-	for at < len(rest) && rest[at] != '"' {
-		b, wide := clayTextByte(rest[at:])
-		if wide == 0 {
-			return ClayToken{}, 0, clayFaultText
-		}
-		text = append(text, b)
-		at += wide
-	}
-	if at == len(rest) {
+	text, size := readQuoted(rest)
+	if size == 0 {
 		return ClayToken{}, 0, clayFaultText
 	}
 	if len(text) > ClayMaxText {
 		return ClayToken{}, 0, clayFaultTooLong
 	}
-	return ClayToken{Kind: ClayTokText, Text: string(text)}, at + 1, 0
+	return ClayToken{Kind: ClayTokText, Text: text}, size, 0
+}
+
+// readQuoted reads the text in quotes with which rest begins, which both languages write alike: what it stands for, and how many bytes that takes: 0 if it is not ended or not written so.
+// It asks for no length: a text that is not ended is that, however long.
+func readQuoted(rest string) (text string, size int) {
+	var bytes []byte
+	at := 1
+	for at < len(rest) && rest[at] != '"' {
+		b, wide := clayTextByte(rest[at:])
+		if wide == 0 {
+			return "", 0
+		}
+		bytes = append(bytes, b)
+		at += wide
+	}
+	if at == len(rest) {
+		return "", 0
+	}
+	return string(bytes), at + 1
 }
 
 // clayTextByte gives the byte that is written first in rest, inside a text, and how many bytes that takes: 0 if none is.
