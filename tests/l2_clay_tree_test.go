@@ -1182,39 +1182,47 @@ FS: F | FS , F
 F: NAME : E | TEXT : E
 `
 
-// clayLine is a thing with one of the ways to write it, of which so many parts are read, from a place on.
-type clayLine struct {
+// chartLine is a thing with one of the ways to write it, of which so many parts are read, from a place on.
+type chartLine struct {
 	thing string
 	way   string
 	read  int
 	from  int
 }
 
-// clayChart holds for each place between tokens what may be under way there.
-type clayChart struct {
-	ways map[string][]string
-	sets [][]clayLine
+// chart holds for each place between tokens what may be under way there, by a grammar whose first line is the whole.
+type chart struct {
+	whole string
+	ways  map[string][]string
+	parts map[string][]string
+	sets  [][]chartLine
 }
 
-func newClayChart() *clayChart {
-	c := &clayChart{ways: map[string][]string{}}
-	for line := range strings.Lines(strings.TrimSpace(clayGrammar)) {
+func newChart(grammar string) *chart {
+	c := &chart{ways: map[string][]string{}, parts: map[string][]string{}}
+	for line := range strings.Lines(strings.TrimSpace(grammar)) {
 		thing, ways, _ := strings.Cut(strings.TrimSpace(line), ": ")
+		if c.whole == "" {
+			c.whole = thing
+		}
 		c.ways[thing] = strings.Split(ways, " | ")
+		for _, way := range c.ways[thing] {
+			c.parts[way] = strings.Fields(way)
+		}
 	}
-	var first []clayLine
-	for _, way := range c.ways["FILE"] {
-		first = append(first, clayLine{"FILE", way, 0, 0})
+	var first []chartLine
+	for _, way := range c.ways[c.whole] {
+		first = append(first, chartLine{c.whole, way, 0, 0})
 	}
-	c.sets = [][]clayLine{c.closed(first)}
+	c.sets = [][]chartLine{c.closed(first)}
 	return c
 }
 
 // closed adds to what is under way all that follows from it without a token.
-func (c *clayChart) closed(set []clayLine) []clayLine {
+func (c *chart) closed(set []chartLine) []chartLine {
 	here := len(c.sets)
-	seen := map[clayLine]struct{}{}
-	add := func(l clayLine) {
+	seen := map[chartLine]struct{}{}
+	add := func(l chartLine) {
 		if _, ok := seen[l]; !ok {
 			seen[l] = struct{}{}
 			set = append(set, l)
@@ -1225,28 +1233,28 @@ func (c *clayChart) closed(set []clayLine) []clayLine {
 	}
 	for i := 0; i < len(set); i++ {
 		l := set[i]
-		parts := strings.Fields(l.way)
+		parts := c.parts[l.way]
 		if l.read < len(parts) {
 			for _, way := range c.ways[parts[l.read]] {
-				add(clayLine{parts[l.read], way, 0, here})
+				add(chartLine{parts[l.read], way, 0, here})
 			}
 			continue
 		}
 		for _, m := range c.sets[l.from] {
-			if parts := strings.Fields(m.way); m.read < len(parts) && parts[m.read] == l.thing {
-				add(clayLine{m.thing, m.way, m.read + 1, m.from})
+			if parts := c.parts[m.way]; m.read < len(parts) && parts[m.read] == l.thing {
+				add(chartLine{m.thing, m.way, m.read + 1, m.from})
 			}
 		}
 	}
 	return set
 }
 
-// goes reads a token, if a file can go on with it.
-func (c *clayChart) goes(token string) bool {
-	var next []clayLine
+// goes reads a token, if the whole can go on with it.
+func (c *chart) goes(token string) bool {
+	var next []chartLine
 	for _, l := range c.sets[len(c.sets)-1] {
-		if parts := strings.Fields(l.way); l.read < len(parts) && parts[l.read] == token {
-			next = append(next, clayLine{l.thing, l.way, l.read + 1, l.from})
+		if parts := c.parts[l.way]; l.read < len(parts) && parts[l.read] == token {
+			next = append(next, chartLine{l.thing, l.way, l.read + 1, l.from})
 		}
 	}
 	if len(next) == 0 {
@@ -1256,17 +1264,18 @@ func (c *clayChart) goes(token string) bool {
 	return true
 }
 
-func (c *clayChart) ended() bool {
+// ended says whether the whole may end here; where there is nothing at all it may.
+func (c *chart) ended() bool {
 	if len(c.sets) == 1 {
 		return true
 	}
-	return slices.ContainsFunc(c.sets[len(c.sets)-1], func(l clayLine) bool {
-		return l.thing == "FILE" && l.from == 0 && l.read == len(strings.Fields(l.way))
+	return slices.ContainsFunc(c.sets[len(c.sets)-1], func(l chartLine) bool {
+		return l.thing == c.whole && l.from == 0 && l.read == len(c.parts[l.way])
 	})
 }
 
 // clayStopByGrammar is the fault of code 6 by the grammar.
-func clayStopByGrammar(c *clayChart, src string, tokens []impl.ClayToken) impl.ClayFault {
+func clayStopByGrammar(c *chart, src string, tokens []impl.ClayToken) impl.ClayFault {
 	c.sets = c.sets[:1]
 	for _, token := range tokens {
 		what := token.Text
@@ -1292,7 +1301,7 @@ func clayStopByGrammar(c *clayChart, src string, tokens []impl.ClayToken) impl.C
 const clayAlphabet = `NAME INT TEXT none true not - + * < == or and has ( ) [ ] { } , ; : . = => if then else let in fn for def emit load`
 
 // readOnByGrammar asks for each text that goes on behind src, by so many tokens, whether Parse stops where the grammar does.
-func readOnByGrammar(t *testing.T, c *clayChart, src string, left int) {
+func readOnByGrammar(t *testing.T, c *chart, src string, left int) {
 	if fault := (impl.ClayFault{Code: 6, At: len(src)}); c.ended() {
 		if _, got := impl.ClayParse(src); got.Code == 6 {
 			t.Errorf("%q: %+v, though it can end", src, got)
@@ -1328,7 +1337,7 @@ func readOnByGrammar(t *testing.T, c *clayChart, src string, left int) {
 
 // The token at which nothing goes on, by a second reading of the forms.
 func TestClayParseAsByGrammar(t *testing.T) {
-	c := newClayChart()
+	c := newChart(clayGrammar)
 	for src, left := range map[string]int{
 		"": 4, "emit ": 4, "emit [ ": 3, "emit a ( ": 3, "emit a < b ": 3, "emit not a ": 3, "emit fn ( a ": 3, "emit { ": 4, "emit [ a for ": 4, "emit a ( b = c , ": 3,
 		"emit if a then b else ": 2, "emit let a = b ": 3, "def f ( a ": 3, "load \"p\" : ": 4, "emit - a ": 3, "emit ( ": 3, "emit a * ": 3, "emit 1 ; ": 3,
@@ -1342,7 +1351,7 @@ func TestClayParseAsByGrammar(t *testing.T) {
 // The same for longer texts in which a token is changed, taken out, doubled or put in.
 func TestClayParseSpoiltTexts(t *testing.T) {
 	dice := clayDice(3)
-	c := newClayChart()
+	c := newChart(clayGrammar)
 	pieces := strings.Fields(clayAlphabet)
 	for i := range 3000 {
 		text := dice.file(1+dice.below(2), 1+i%3).text(func() int { return dice.below(4) / 3 })
@@ -1445,7 +1454,7 @@ func TestClayValidTreeOfBentTrees(t *testing.T) {
 
 func FuzzClayParse(f *testing.F) {
 	f.Add("load \"p\": a, b; def f(x, y = 1) = if x then -y.z else [y[1] for q in {a: 1} if not q()]; emit let a = fn() => 1 in a == 2;")
-	c := newClayChart()
+	c := newChart(clayGrammar)
 	f.Fuzz(func(t *testing.T, src string) {
 		tokens, fault := impl.ClayScan(src)
 		if len(tokens) > 100 {
