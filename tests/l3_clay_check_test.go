@@ -31,30 +31,43 @@ func clayMarked(t *testing.T, src string) (marked, plain impl.ClayTree) {
 	return marked, plain
 }
 
-// clayFamily tells for each node which one is above it, and the how manieth kid of it it is.
-type clayFamily struct {
-	nodes []impl.ClayNode
+// kin tells for each node of a list which one is above it, the how manieth kid of it it is, and what its own kids are.
+type kin struct {
 	above []int
 	turn  []int
 	kids  [][]int
 }
 
-func clayFamilyOf(nodes []impl.ClayNode) clayFamily {
-	f := clayFamily{nodes, make([]int, len(nodes)), make([]int, len(nodes)), make([][]int, len(nodes))}
+// kinOf takes how many kids each node has, each being behind its kids.
+func kinOf(counts []int) kin {
+	k := kin{make([]int, len(counts)), make([]int, len(counts)), make([][]int, len(counts))}
 	var place func(at int) int
 	// place puts a node above its kids, from the last one on, and gives the place before all of them.
 	place = func(at int) int {
 		next := at - 1
-		for turn := nodes[at].Kids - 1; turn >= 0; turn-- {
-			f.above[next], f.turn[next] = at, turn
-			f.kids[at] = slices.Insert(f.kids[at], 0, next)
+		for turn := counts[at] - 1; turn >= 0; turn-- {
+			k.above[next], k.turn[next] = at, turn
+			k.kids[at] = slices.Insert(k.kids[at], 0, next)
 			next = place(next)
 		}
 		return next
 	}
-	f.above[len(nodes)-1] = -1
-	place(len(nodes) - 1)
-	return f
+	k.above[len(counts)-1] = -1
+	place(len(counts) - 1)
+	return k
+}
+
+type clayFamily struct {
+	kin
+	nodes []impl.ClayNode
+}
+
+func clayFamilyOf(nodes []impl.ClayNode) clayFamily {
+	var counts []int
+	for _, n := range nodes {
+		counts = append(counts, n.Kids)
+	}
+	return clayFamily{kinOf(counts), nodes}
 }
 
 func (f clayFamily) isUnderLoad(at int) bool {
