@@ -639,6 +639,7 @@ func wantMillAsByRules(t *testing.T, rules []millRule, src string) {
 
 // Promise 13, for all short texts of bytes that have to do with each other.
 func TestMillScanAllShortTexts(t *testing.T) {
+	t.Parallel()
 	const bytes = "a0u81_\"\\=-> \n#&@"
 	rules := millRules()
 	var readOn func(src string, left int)

@@ -1049,6 +1049,7 @@ func TestMillParseEndedTexts(t *testing.T) {
 
 // Another token in the place of each, one too many in front of each, and each left out.
 func TestMillParseAnotherToken(t *testing.T) {
+	t.Parallel()
 	c := newChart(millGrammar)
 	tokens, ends, _ := millScanByRules(millRules(), millEveryRow)
 	pieces := append(millWordList(), strings.Fields(millMarkList)...)
@@ -1576,6 +1577,7 @@ func TestMillValidTreeOfWrongNodes(t *testing.T) {
 
 // Each kind over each few kids is valid just where the document's words say so.
 func TestMillValidTreeOfAllKids(t *testing.T) {
+	t.Parallel()
 	rows := millRows()
 	sorts := []millBush{
 		rows[impl.MillNodeName], rows[impl.MillNodeCall], rows[impl.MillNodeBreak], rows[impl.MillNodeIf], rows[impl.MillNodeBlock], rows[impl.MillNodeParam], rows[impl.MillNodeFn], millGrowIn(),
@@ -1732,6 +1734,7 @@ func (d *clayDice) millSpread(rules []millRule, src string) string {
 
 // Promises 14 and 15, for trees of all kinds that are put together by a fixed rule, as written, with needless brackets and with other gaps.
 func TestMillTreeThereAndBack(t *testing.T) {
+	t.Parallel()
 	dice := clayDice(9)
 	rules := millRules()
 	kinds := map[int]int{}

@@ -1243,6 +1243,7 @@ func millTurns() (short, long []millBush) {
 
 // Promise 16, for all small blocks of these forms.
 func TestMillCheckAllSmallBlocks(t *testing.T) {
+	t.Parallel()
 	short, long := millTurns()
 	codes := map[int]int{}
 	ask := func(statements ...millBush) {
@@ -1542,6 +1543,7 @@ func (m *millMaker) program(fns, deep int) millBush {
 
 // Promise 16, for programs of all kinds that are made to fit.
 func TestMillCheckWhatIsMadeToFit(t *testing.T) {
+	t.Parallel()
 	dice := clayDice(23)
 	m := &millMaker{clayDice: &dice}
 	kinds := map[int]int{}
@@ -1661,6 +1663,7 @@ func (d *clayDice) millSpoil(b *millBush) {
 
 // Promise 16, for programs that fit in which some things are changed.
 func TestMillCheckSpoiltPrograms(t *testing.T) {
+	t.Parallel()
 	dice := clayDice(31)
 	m := &millMaker{clayDice: &dice}
 	codes := map[int]int{}

@@ -763,6 +763,7 @@ func TestMillFoldAllSmallTrees(t *testing.T) {
 
 // Promise 18, for programs of all kinds that are put together by a fixed rule.
 func TestMillFoldDrawnPrograms(t *testing.T) {
+	t.Parallel()
 	dice := clayDice(43)
 	m := &millMaker{clayDice: &dice}
 	asked, smaller, kinds := 0, 0, map[int]int{}
@@ -805,6 +806,7 @@ func TestMillFoldDrawnPrograms(t *testing.T) {
 
 // The same for programs in which something may not fit, and for trees of any kinds of nodes.
 func TestMillFoldSpoiltPrograms(t *testing.T) {
+	t.Parallel()
 	dice := clayDice(47)
 	m := &millMaker{clayDice: &dice}
 	fits, not := 0, 0

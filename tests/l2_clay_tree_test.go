@@ -944,6 +944,7 @@ func clayAround(b clayBush) clayBush {
 
 // Each kind over each few kids is valid just where the document's words say so.
 func TestClayValidTreeOfAllKids(t *testing.T) {
+	t.Parallel()
 	one := clayGrowInt(1)
 	sorts := []clayBush{
 		clayGrowName("a"), one, clayGrowText(impl.ClayNodeField, "b", one), clayGrowText(impl.ClayNodeNamed, "c", one), clayGrowText(impl.ClayNodeParam, "d"),
@@ -1337,6 +1338,7 @@ func readOnByGrammar(t *testing.T, c *chart, src string, left int) {
 
 // The token at which nothing goes on, by a second reading of the forms.
 func TestClayParseAsByGrammar(t *testing.T) {
+	t.Parallel()
 	c := newChart(clayGrammar)
 	for src, left := range map[string]int{
 		"": 4, "emit ": 4, "emit [ ": 3, "emit a ( ": 3, "emit a < b ": 3, "emit not a ": 3, "emit fn ( a ": 3, "emit { ": 4, "emit [ a for ": 4, "emit a ( b = c , ": 3,
@@ -1350,6 +1352,7 @@ func TestClayParseAsByGrammar(t *testing.T) {
 
 // The same for longer texts in which a token is changed, taken out, doubled or put in.
 func TestClayParseSpoiltTexts(t *testing.T) {
+	t.Parallel()
 	dice := clayDice(3)
 	c := newChart(clayGrammar)
 	pieces := strings.Fields(clayAlphabet)

@@ -559,6 +559,7 @@ func clayTurns(deep int) []clayBush {
 
 // Promise 3, for all small trees of these forms, in a file that makes one of the names, both or none.
 func TestClayCheckAllSmallTrees(t *testing.T) {
+	t.Parallel()
 	files := []func(e clayBush) clayBush{
 		func(e clayBush) clayBush { return clayGrowFile(clayGrowEmit(e)) },
 		func(e clayBush) clayBush { return clayGrowFile(clayGrowText(impl.ClayNodeSet, "a", e)) },

@@ -786,6 +786,7 @@ func wantReadByTree(t *testing.T, s string) bool {
 
 // All short rows of pieces are read as a value just where they are its form.
 func TestClayReadValueAllShortTexts(t *testing.T) {
+	t.Parallel()
 	pieces := []string{"none", "true", "0", "1", "-", "9223372036854775807", " - 1", "\"\"", "\"a\"", "a", "b", "if", "[", "]", "{", "}", ", ", ": ", " ", "("}
 	rights := 0
 	var grow func(s string, left int)

@@ -392,6 +392,7 @@ func wantBuilt(t *testing.T, name string, args ls, want any) {
 
 // Ops at each pair of values of each kind, and ops that are none.
 func TestClayOpOfEachTwo(t *testing.T) {
+	t.Parallel()
 	list := clayPlain(ls(clayAscending())).(ls)
 	for _, a := range list {
 		for _, b := range list {
@@ -618,6 +619,7 @@ func TestClayBuiltByHand(t *testing.T) {
 
 // Each built name with each number of args, and with values of each kind in each place.
 func TestClayBuiltOfEachKind(t *testing.T) {
+	t.Parallel()
 	names := append(strings.Fields(clayBuiltList), "", "or", "lenn")
 	values := clayPlain(ls(clayAscending())).(ls)
 	few := clayPlain(ls{nil, true, 0, 1, 2, -1, "", "a", "ab", ls{}, ls{"a"}, ls{"a", "b"}, ls{ls{"a", 1}}, ls{1, 2, 1}, rc{}, rc{"a": 1}}).(ls)

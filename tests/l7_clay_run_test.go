@@ -1148,6 +1148,7 @@ func clayBurn(steps int) string {
 }
 
 func TestClayRunMostSteps(t *testing.T) {
+	t.Parallel()
 	for _, n := range []int{0, 1, 150, 151, 203, 204, 205, 4999, 5000} {
 		if o := wantShown(t, clayWorldOf("", "m", clayBurn(n)), "0"); o.Steps != n {
 			t.Errorf("%d steps, want %d", o.Steps, n)
@@ -1675,6 +1676,7 @@ func (a *clayAuthor) world() impl.ClayWorld {
 
 // Promises 4, 7, 8 and 11, and the second reading, for packages that are put together by a fixed rule.
 func TestClayRunAsByRules(t *testing.T) {
+	t.Parallel()
 	dice := clayDice(23)
 	author := &clayAuthor{clayDice: &dice}
 	ends := map[string]int{}
@@ -1706,6 +1708,7 @@ func TestClayRunAsByRules(t *testing.T) {
 
 // The same for packages of any kinds of nodes, which mostly end soon.
 func TestClayRunOfAnyTrees(t *testing.T) {
+	t.Parallel()
 	dice := clayDice(29)
 	lib := impl.ClayPrint(impl.ClayTree{Nodes: clayRead(t, "let a = 1; def b(x, y = x) = [x, y]; let c = fn(f) => f; let x = \"x\"; let z9_ = [1]; let iff = {a: 1};").Nodes})
 	for i := range 3000 {

@@ -205,6 +205,7 @@ func clayConstants() []string {
 
 // Each op over each two constants gives a constant or stays, as Op says.
 func TestClayFoldOpsOfEachTwo(t *testing.T) {
+	t.Parallel()
 	words := map[string]int{}
 	folds, below := 0, 0
 	for _, first := range clayConstants() {
@@ -529,6 +530,7 @@ func TestClayFoldKeepsEachEnd(t *testing.T) {
 
 // Promise 9 and the second reading, for packages that are put together by a fixed rule and whose runs go far.
 func TestClayFoldKeepsRuns(t *testing.T) {
+	t.Parallel()
 	dice := clayDice(37)
 	author := &clayAuthor{clayDice: &dice}
 	ends := map[string]int{}
@@ -581,6 +583,7 @@ func (d *clayDice) constants(nodes []impl.ClayNode) []impl.ClayNode {
 
 // The same for trees of any kinds of nodes, and for what is printed of them.
 func TestClayFoldAnyTrees(t *testing.T) {
+	t.Parallel()
 	dice := clayDice(41)
 	lib := "let a = 1; def b(x, y = x) = [x, y]; let c = fn(f) => f; let x = \"x\"; let z9_ = [1]; let iff = {a: 1};"
 	smaller, lets := 0, 0
@@ -612,6 +615,7 @@ func TestClayFoldAnyTrees(t *testing.T) {
 
 // All small trees of some forms, in a let of a constant.
 func TestClayFoldAllSmallTrees(t *testing.T) {
+	t.Parallel()
 	folds := 0
 	for _, e := range clayTurns(2) {
 		for _, name := range []string{"a", "len"} {

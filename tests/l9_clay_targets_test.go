@@ -518,6 +518,7 @@ func TestClayTargetsOrder(t *testing.T) {
 }
 
 func TestClayTargetsMost(t *testing.T) {
+	t.Parallel()
 	texts := func(n, size int) ls {
 		list := ls{}
 		for i := range n {
@@ -713,6 +714,7 @@ func (d *clayDice) told() []impl.ClayTold {
 }
 
 func TestClayTargetsAsByRules(t *testing.T) {
+	t.Parallel()
 	dice := clayDice(9)
 	codes := [6]int{}
 	var plans [][]impl.ClayTarget
