@@ -286,7 +286,7 @@ func millTurnShown(turn impl.MillTurn) string { return fmt.Sprintf("%.600q", fmt
 // millMoreReplies are replies of which none is asked for.
 var millMoreReplies = []impl.MillReply{{Text: "more"}, {Code: 4}, {Code: 5}, {Text: `fn main() -> text { return "more"; }`}}
 
-// wantMillMeant asks Mean of a tree that fits, with a job and replies that are valid: it is the second reading; each beginning of the replies stops at the look behind it, and replies behind those that are asked for change nothing (promise 20); and the same of what it is folded to (promise 19).
+// wantMillMeant asks Mean of a tree that fits, with a job and replies that are valid: it is the second reading; each beginning of the replies stops at the look behind it, and replies behind those that are asked for change nothing (promise 20); and the same of what it is folded to (promise 19), and of its machine (promise 25).
 func wantMillMeant(t *testing.T, b millBush, j impl.MillJob, replies []impl.MillReply) impl.MillTurn {
 	t.Helper()
 	tree := b.tree()
@@ -304,16 +304,20 @@ func wantMillMeant(t *testing.T, b millBush, j impl.MillJob, replies []impl.Mill
 	}
 	ask(replies, whole)
 	used := min(len(looked), len(replies))
+	var turns []impl.MillTurn
 	for n, at := range looked {
 		if n <= len(replies) {
-			ask(replies[:n:n], impl.MillTurn{Kind: at.kind, Name: at.name, Steps: at.steps, Said: whole.Said[:at.said]})
+			turns = append(turns, impl.MillTurn{Kind: at.kind, Name: at.name, Steps: at.steps, Said: whole.Said[:at.said]})
+			ask(replies[:n:n], turns[n])
 		}
 	}
 	if whole.Over {
+		turns = append(turns, whole)
 		more := append(slices.Clone(replies[:used]), millMoreReplies...)
 		ask(replies[:used:used], whole)
 		ask(more[:min(len(more), 100)], whole)
 	}
+	wantMillMachineMeant(t, tree, j, replies, turns)
 	if !slices.Equal(tree.Nodes, keptTree) || !slices.Equal(j.Outs, keptOuts) || !slices.Equal(replies, keptReplies) {
 		t.Errorf("%.1500q: an argument was changed", impl.MillPrint(tree))
 	}
@@ -1565,28 +1569,41 @@ func TestMillMeanAnswersNewMemory(t *testing.T) {
 	}
 }
 
-// Many at once: nothing is kept between calls.
-func TestMillMeanKeepsNothing(t *testing.T) {
-	b := millOf(t, inMain(`let i = 0; while i < 30 { i = i + 1; say arg() + dec(i); write "o", arg(); } return read(arg());`))
+// wantAtOnce does things beside each other, each several times over; what one tells is wrong.
+func wantAtOnce(t *testing.T, all []func() (wrong string)) {
+	t.Helper()
 	done := make(chan string)
-	for n := range 8 {
+	for _, do := range all {
 		go func() {
-			arg := fmt.Sprint("n", n)
-			for range 20 {
-				turn := impl.MillMean(b.tree(), impl.MillJob{Arg: arg, Outs: []string{"o"}}, there(arg+"!"))
-				if turn.Text != arg+"!" || len(turn.Said) != 30 || turn.Said[29] != arg+"30" || len(turn.Files) != 1 || turn.Files[0].Text != arg {
-					done <- millTurnShown(turn)
-					return
-				}
+			wrong := ""
+			for i := 0; i < 20 && wrong == ""; i++ {
+				wrong = do()
 			}
-			done <- ""
+			done <- wrong
 		}()
 	}
-	for range 8 {
+	for range all {
 		if wrong := <-done; wrong != "" {
 			t.Error(wrong)
 		}
 	}
+}
+
+// Many at once: nothing is kept between calls.
+func TestMillMeanKeepsNothing(t *testing.T) {
+	b := millOf(t, inMain(`let i = 0; while i < 30 { i = i + 1; say arg() + dec(i); write "o", arg(); } return read(arg());`))
+	var all []func() string
+	for n := range 8 {
+		arg := fmt.Sprint("n", n)
+		all = append(all, func() string {
+			turn := impl.MillMean(b.tree(), impl.MillJob{Arg: arg, Outs: []string{"o"}}, there(arg+"!"))
+			if turn.Text != arg+"!" || len(turn.Said) != 30 || turn.Said[29] != arg+"30" || len(turn.Files) != 1 || turn.Files[0].Text != arg {
+				return millTurnShown(turn)
+			}
+			return ""
+		})
+	}
+	wantAtOnce(t, all)
 }
 
 func FuzzMillMean(f *testing.F) {

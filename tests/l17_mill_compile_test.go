@@ -1045,25 +1045,18 @@ func TestMillCompileAnswersNewMemory(t *testing.T) {
 
 // Many at once: nothing is kept between calls.
 func TestMillCompileKeepsNothing(t *testing.T) {
-	done := make(chan string)
+	var all []func() string
 	for n := range 8 {
 		tree := millOf(t, `fn f() { `+millLets("x", n)+strings.Repeat("while true { break; } ", n)+`}`+millEnd).tree()
 		want := millMadeByRules(tree.Nodes)
-		go func() {
-			for range 50 {
-				if got := impl.MillCompile(tree); !isSameMillCode(got, want) {
-					done <- millCodeShown(got)
-					return
-				}
+		all = append(all, func() string {
+			if got := impl.MillCompile(tree); !isSameMillCode(got, want) {
+				return millCodeShown(got)
 			}
-			done <- ""
-		}()
+			return ""
+		})
 	}
-	for range 8 {
-		if wrong := <-done; wrong != "" {
-			t.Error(wrong)
-		}
-	}
+	wantAtOnce(t, all)
 }
 
 func FuzzMillCompile(f *testing.F) {
