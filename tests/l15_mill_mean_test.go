@@ -286,7 +286,7 @@ func millTurnShown(turn impl.MillTurn) string { return fmt.Sprintf("%.600q", fmt
 // millMoreReplies are replies of which none is asked for.
 var millMoreReplies = []impl.MillReply{{Text: "more"}, {Code: 4}, {Code: 5}, {Text: `fn main() -> text { return "more"; }`}}
 
-// wantMillMeant asks Mean of a tree that fits, with a job and replies that are valid: it is the second reading; each beginning of the replies stops at the look behind it, and replies behind those that are asked for change nothing (promise 20); and the same of what it is folded to (promise 19), and of its machine (promise 25).
+// wantMillMeant asks Mean of a tree that fits, with a job and replies that are valid: it is the second reading; each beginning of the replies stops at the look behind it, and replies behind those that are asked for change nothing (promise 20); and the same of what it is folded to (promise 19), of its machine (promise 25), and of Again with its looks (promise 27).
 func wantMillMeant(t *testing.T, b millBush, j impl.MillJob, replies []impl.MillReply) impl.MillTurn {
 	t.Helper()
 	tree := b.tree()
@@ -318,6 +318,7 @@ func wantMillMeant(t *testing.T, b millBush, j impl.MillJob, replies []impl.Mill
 		ask(more[:min(len(more), 100)], whole)
 	}
 	wantMillMachineMeant(t, tree, j, replies, turns)
+	wantMillAgained(t, b, j, replies, looked, whole)
 	if !slices.Equal(tree.Nodes, keptTree) || !slices.Equal(j.Outs, keptOuts) || !slices.Equal(replies, keptReplies) {
 		t.Errorf("%.1500q: an argument was changed", impl.MillPrint(tree))
 	}
