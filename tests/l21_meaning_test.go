@@ -195,7 +195,7 @@ func wantHouse(t *testing.T, p impl.MillPlace, main string) []impl.HouseMade {
 	return got
 }
 
-// wantMeaning asks for promise 31, and that what is not told is nothing.
+// wantMeaning asks for promise 31, and that what is not told is nothing. A run that is not over is not honest.
 func wantMeaning(t *testing.T, p impl.MillPlace, targets []impl.ClayTarget, all []impl.HouseMade, comes func(name string) (impl.MillReply, bool)) {
 	t.Helper()
 	for at, made := range all {
@@ -218,6 +218,9 @@ func wantMeaning(t *testing.T, p impl.MillPlace, targets []impl.ClayTarget, all 
 			}
 		}
 		wantMadeAgain(t, target, made)
+		if impl.HouseHonest(impl.HouseKept{Target: target, Made: made}) != made.Over {
+			t.Errorf("%s: over, but not honest, or the other way around", madeShown(all[at:at+1]))
+		}
 		if made.Over {
 			continue
 		}
