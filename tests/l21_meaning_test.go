@@ -288,17 +288,22 @@ func wantMade(t *testing.T, p impl.MillPlace, want ...impl.HouseMade) {
 // wantEnds asks for the codes, texts and numbers of looks of all runs, or what they wait for.
 func wantEnds(t *testing.T, p impl.MillPlace, want ...string) {
 	t.Helper()
+	if ends := madeEnds(wantHouse(t, p, "main")); !slices.Equal(ends, want) {
+		t.Errorf("%s: got %q, want %q", millPlaceShown(p), ends, want)
+	}
+}
+
+// madeEnds has for each run its name, code, text and number of looks, or what it waits for.
+func madeEnds(all []impl.HouseMade) []string {
 	var ends []string
-	for _, made := range wantHouse(t, p, "main") {
+	for _, made := range all {
 		if made.Over {
 			ends = append(ends, fmt.Sprintf("%s %d %q %d", made.Name, made.Code, made.Text, len(made.Seen)))
 		} else {
 			ends = append(ends, fmt.Sprintf("%s waits %s %d", made.Name, made.Wait, len(made.Seen)))
 		}
 	}
-	if !slices.Equal(ends, want) {
-		t.Errorf("%s: got %q, want %q", millPlaceShown(p), ends, want)
-	}
+	return ends
 }
 
 func wantComes(t *testing.T, p impl.MillPlace, name string, code int, text string) {
