@@ -788,6 +788,70 @@ func wantCuts(t *testing.T, a sessionAuthor, text, got string) {
 	}
 }
 
+// slowTool looks at names that are not there, and then tells what it was given.
+const slowTool = `fn main() -> text { let n = 0; if has("p") { n = n + 1; } if has("q") { n = n + 2; } let s = ""; if has("i") { s = read("i"); } write "m.o", arg() + dec(n) + s; return ""; }`
+
+// A run that is under way when its house is changed is made anew, by what is so then.
+func TestYardSessionRunsUnderWay(t *testing.T) {
+	before := runtime.NumGoroutine()
+	emit := func(parts string) string { return aFile("main.clay", `emit {name: "m", `+parts+`};`) }
+	begun := emit(`tool: "up", arg: "x", ins: ["i"], outs: ["m.o"]`)
+	for change, want := range map[string]string{
+		aFile("z", "Z"): `m.o 0 "x0I\0a"`,
+		begun:           `m.o 0 "x0I\0a"`,
+		emit(`tool: "up", arg: "y", ins: ["i"], outs: ["m.o"]`):                 `m.o 0 "y0I\0a"`,
+		emit(`tool: "up", arg: "x", ins: ["i"], outs: ["m.o", "n.o"]`):          `m.o 5 ""`,
+		emit(`tool: "up", arg: "x", ins: ["i", "up"], outs: ["m.o"]`):           `m.o 0 "x0I\0a"`,
+		emit(`tool: "up", arg: "x", outs: ["m.o"]`):                             `m.o 0 "x0I\0a"`,
+		emit(`tool: "other", arg: "x", ins: ["i"], outs: ["m.o"]`):              `m.o 0 "xother"`,
+		aFile("up", strings.Replace(slowTool, "arg() +", "arg() + arg() +", 1)): `m.o 0 "xx0I\0a"`,
+		aFile("up", strings.Replace(slowTool, `has("q")`, `has("z")`, 1)):       `m.o 0 "x0I\0a"`,
+		aFile("i", "J"): `m.o 0 "x0J\0a"`,
+		aFile("p", "P"): `m.o 0 "x1I\0a"`,
+		aFile("q", "Q"): `m.o 0 "x2I\0a"`,
+		"drop i":        `m.o 5 ""`,
+		"drop up":       `m.o 5 ""`,
+	} {
+		for rounds := range 9 {
+			calm := fmt.Sprint("calm ", rounds)
+			text := linesOf(begun, aFile("up", slowTool), aFile("other", `fn main() -> text { let n = has("p"); write "m.o", arg() + "other"; return ""; }`), aFile("i", "I"), "ask m.o", calm, change, "ask m.o", calm, "tick", begun, change, "ask m.o", "calm 30", "answers", "show")
+			got := impl.YardSession(text)
+			if rules := sessionByRules(text); got != rules {
+				t.Fatalf("%q: %q, by the rules %q", text, got, rules)
+			}
+			if lines := strings.Split(got, "\n"); !strings.HasSuffix(lines[len(lines)-3], want) {
+				t.Fatalf("%q: %q, want %q", text, got, want)
+			}
+		}
+	}
+	wantNoneLeft(t, before)
+}
+
+// More runs are left under way than a house has, and each of them is taken up again.
+func TestYardSessionManyRunsUnderWay(t *testing.T) {
+	before := runtime.NumGoroutine()
+	commands := []string{aFile("up", strings.ReplaceAll(slowTool, `"m.o"`, `arg()`))}
+	for _, rounds := range []int{2, 20} {
+		for n := range 33 {
+			commands = append(commands, aFile("main.clay", `def obj(f) = {name: f, tool: "up", arg: f, outs: [f]};`, fmt.Sprintf(`emit obj("a%d"); emit obj("b%d");`, n, n)), fmt.Sprint("ask a", n), fmt.Sprint("ask b", n), fmt.Sprint("calm ", rounds), "answers")
+		}
+	}
+	text := linesOf(append(commands, "show")...)
+	got := impl.YardSession(text)
+	if rules := sessionByRules(text); got != rules || strings.Count(got, ` 0 "`) != 2*33 {
+		t.Errorf("%q, by the rules %q", got, rules)
+	}
+	wantNoneLeft(t, before)
+}
+
+// A run that waits for what one on the shelf has read is made by workers, where the shelf is cleared: this one is there no longer.
+func TestYardSessionClearWhileWaiting(t *testing.T) {
+	p := houseWith([]string{"a get a.o>src > a.o", "m get m.o>a.o > m.o"})
+	talk := talkIn(p, "ask m.o", "code 0", "calm 20", "0", "answers", `m.o 0 "S\0a!!"`, aFile("src", "T"), "code 0", "ask m.o", "code 0")
+	wantTalk(t, append(slices.Clone(talk), "tick", "3", "tick", "5", "tick", "7")...)
+	wantTalk(t, append(slices.Clone(talk), "tick", "3", "clear", "code 0", "tick", "6", "tick", "8", "calm 20", "0", "answers", `m.o 0 "T\0a!!"`)...)
+}
+
 // Texts of any bytes have an answer to each of their commands.
 func TestYardSessionAnyBytes(t *testing.T) {
 	dice := clayDice(3151)
@@ -912,6 +976,12 @@ func TestYardSessionsKeepNothing(t *testing.T) {
 		})
 	}
 	wantAtOnce(t, all)
+	wantNoneLeft(t, before)
+}
+
+// wantNoneLeft asks for no more goroutines than there were before.
+func wantNoneLeft(t *testing.T, before int) {
+	t.Helper()
 	// One that is at its very end may be counted for a moment.
 	for tries := 0; runtime.NumGoroutine() > before; tries++ {
 		if tries == 200 {
